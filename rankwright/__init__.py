@@ -1,0 +1,1 @@
+"""Rankwright: matroids with witnesses."""

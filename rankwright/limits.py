@@ -1,0 +1,14 @@
+"""The bounds that the document names."""
+
+MAX_ELEMENT = 199
+MAX_GROUND = 10
+MAX_RANKS = 6
+MAX_FAMILY = 6
+MAX_VERTEX = 10
+MAX_LOG = 20
+MAX_TREE = 7
+MAX_FORM = 6
+MAX_CUTS = 5
+MAX_PAIR = 8
+MAX_PACKING = 4
+FIRST_MARKER = 150

@@ -1,0 +1,93 @@
+import ast
+import inspect
+import pathlib
+import unittest
+
+from rankwright import errors, limits, matroids
+from rankwright.matroids import Matroid
+
+PACKAGE = pathlib.Path(limits.__file__).parent
+LIBRARY = ("__future__", "collections", "heapq", "itertools", "math")
+
+FUNCTIONS = {
+    "fault_of": ["kind", "ground", "table"],
+    "told_by": ["kind", "ground", "table"],
+    "table_of": ["matroid", "kind"],
+}
+METHODS = {
+    "__init__": ["self", "ground", "bases"],
+    "__eq__": ["self", "other"],
+    "rank_of": ["self", "members"],
+    "closure_of": ["self", "members"],
+    "is_independent": ["self", "members"],
+    "circuit_in": ["self", "members"],
+    "fundamental": ["self", "base", "element"],
+    "dual": ["self"],
+}
+PROPERTIES = ["rank", "circuits", "flats", "hyperplanes", "loops", "coloops"]
+
+
+def parameters(function):
+    return list(inspect.signature(function).parameters)
+
+
+class InterfaceTest(unittest.TestCase):
+
+    def test_functions_are_defined_in_their_file_with_their_arguments(self):
+        for name, wanted in FUNCTIONS.items():
+            with self.subTest(name=name):
+                function = getattr(matroids, name)
+                self.assertEqual(function.__module__, "rankwright.matroids")
+                self.assertEqual(parameters(function), wanted)
+
+    def test_classes_are_defined_in_their_file(self):
+        self.assertEqual(Matroid.__module__, "rankwright.matroids")
+        for name, thing in vars(errors).items():
+            if inspect.isclass(thing):
+                self.assertEqual(thing.__module__, "rankwright.errors", name)
+
+    def test_methods_are_defined_in_the_class_with_their_arguments(self):
+        for name, wanted in METHODS.items():
+            with self.subTest(name=name):
+                self.assertEqual(parameters(vars(Matroid)[name]), wanted)
+
+    def test_properties_are_defined_in_the_class(self):
+        for name in PROPERTIES:
+            with self.subTest(name=name):
+                self.assertIsInstance(vars(Matroid)[name], property)
+
+    def test_attributes_are_set_when_a_matroid_is_made(self):
+        made = vars(Matroid((3, 5), ((3,),)))
+        self.assertEqual((made["ground"], made["bases"]), ((3, 5), ((3,),)))
+
+
+class FilesTest(unittest.TestCase):
+
+    def test_the_package_holds_nothing_but_files_of_the_language(self):
+        held = [path.name for path in PACKAGE.iterdir() if path.name != "__pycache__"]
+        self.assertIn("__init__.py", held)
+        self.assertEqual([name for name in held if not name.endswith(".py")], [])
+
+    def test_sizes_and_characters(self):
+        for path in PACKAGE.glob("*.py"):
+            text = path.read_bytes().decode("ascii")
+            with self.subTest(file=path.name):
+                self.assertLessEqual(len(text.splitlines()), 399)
+                self.assertLessEqual(max(len(line) for line in text.splitlines()), 120)
+                self.assertTrue(all(sign == "\n" or " " <= sign <= "~" for sign in text))
+
+    def test_no_function_is_longer_than_forty_lines(self):
+        for path in PACKAGE.glob("*.py"):
+            for node in ast.walk(ast.parse(path.read_text())):
+                if isinstance(node, ast.FunctionDef):
+                    with self.subTest(file=path.name, function=node.name):
+                        self.assertLessEqual(node.end_lineno - node.lineno + 1, 40)
+
+    def test_every_import_is_from_the_package_or_the_library_that_is_let_in(self):
+        for path in PACKAGE.glob("*.py"):
+            for node in ast.walk(ast.parse(path.read_text())):
+                with self.subTest(file=path.name):
+                    self.assertNotIsInstance(node, ast.Import)
+                    if isinstance(node, ast.ImportFrom):
+                        self.assertEqual(node.level, 0)
+                        self.assertIn(node.module.split(".")[0], LIBRARY + ("rankwright",))
