@@ -1,7 +1,9 @@
-"""Whether values are integers, elements, sets, grounds and tuples of sets."""
+"""Whether values are integers, elements, sets, grounds, tuples of sets, matrices, graphs and families."""
 
 from rankwright.errors import BadGround, BadSet, BadSets
-from rankwright.limits import MAX_ELEMENT, MAX_GROUND
+from rankwright.limits import MAX_ELEMENT, MAX_FAMILY, MAX_GROUND, MAX_VERTEX
+
+_MAX_ROWS = 10
 
 
 def is_integer(thing):
@@ -44,6 +46,39 @@ def are_sets_within(thing, ground):
     return all([is_set_within(one, ground) for one in thing]) and is_ascending(thing)
 
 
+def is_matrix(thing, number, ground):
+    """Whether thing is a tuple of rows over a number, each with an entry for each element of the ground."""
+    if not isinstance(thing, tuple) or len(thing) > _MAX_ROWS:
+        return False
+    return all([_is_row(row, number, len(ground)) for row in thing])
+
+
+def _is_row(thing, number, many):
+    if not isinstance(thing, tuple) or len(thing) != many:
+        return False
+    return all([is_integer(entry) and 0 <= entry < number for entry in thing])
+
+
+def is_graph(thing, ground):
+    """Whether thing is a tuple with an edge for each element of the ground."""
+    if not isinstance(thing, tuple) or len(thing) != len(ground):
+        return False
+    return all([_is_edge(edge) for edge in thing])
+
+
+def _is_edge(thing):
+    if not isinstance(thing, tuple) or len(thing) != 2:
+        return False
+    return all([is_integer(vertex) for vertex in thing]) and 0 <= thing[0] <= thing[1] <= MAX_VERTEX
+
+
+def is_family(thing, ground):
+    """Whether thing is a tuple of not too many sets within the ground."""
+    if not isinstance(thing, tuple) or len(thing) > MAX_FAMILY:
+        return False
+    return all([is_set_within(members, ground) for members in thing])
+
+
 def check_ground(ground):
     """Raise BadGround for what is no ground."""
     if not is_set(ground) or len(ground) > MAX_GROUND:
@@ -60,3 +95,9 @@ def check_set(members, ground):
     """Raise BadSet for what is no set within the ground."""
     if not is_set_within(members, ground):
         raise BadSet("not a set within the ground")
+
+
+def check_base(base, bases):
+    """Raise BadSet for what is none of the bases."""
+    if not is_set(base) or base not in bases:
+        raise BadSet("not a base")

@@ -1,12 +1,13 @@
 """Matroids, and the tables that tell them."""
 
-from rankwright.checks import check_ground, check_set, check_sets, is_element_of, is_set
-from rankwright.errors import BadElement, BadMatroid, BadName, BadSet, BadSets, BadTable, TooMany
+from rankwright.checks import check_base, check_ground, check_set, check_sets, is_element_of
+from rankwright.errors import BadElement, BadMatroid, BadName, BadSets, BadTable, TooMany
 from rankwright.faults import fault_in
 from rankwright.limits import MAX_RANKS
 from rankwright.masks import (
     circuit_masks, closure_mask, flat_masks, mask_of, masks_of, ranks_by_bases, set_of, sets_of, sets_within,
 )
+from rankwright.sets import rest_of, together
 from rankwright.tables import bases_in, is_kind, is_table
 
 _MAX_TOLD = 8
@@ -89,16 +90,14 @@ class Matroid:
 
     def fundamental(self, base, element):
         """The only circuit in a base and an element outside together."""
-        if not is_set(base) or base not in self.bases:
-            raise BadSet("not a base")
+        check_base(base, self.bases)
         if not is_element_of(element, self.ground) or element in base:
             raise BadElement("not an element of the ground outside the base")
-        return self.circuit_in(tuple(sorted([*base, element])))
+        return self.circuit_in(together(base, (element,)))
 
     def dual(self):
         """The matroid whose bases are the complements of the bases."""
-        rests = [tuple([one for one in self.ground if one not in base]) for base in self.bases]
-        return Matroid(self.ground, tuple(sorted(rests)))
+        return Matroid(self.ground, tuple(sorted([rest_of(self.ground, base) for base in self.bases])))
 
 
 def fault_of(kind, ground, table):

@@ -2,6 +2,9 @@
 
 import unittest
 
+from rankwright.extensions import cut_of, cut_of_flats, cuts_of, extended, relaxed, tightened
+from rankwright.logs import normal_of, plain_of, replayed
+from rankwright.makers import by_family, by_graph, by_matrix, named, summed, truncated, uniform
 from rankwright.matroids import Matroid, fault_of, told_by
 
 
@@ -33,3 +36,48 @@ class ExamplesTest(unittest.TestCase):
 
     def test_a_fault_of_ranks(self):
         self.shown(fault_of("ranks", (4, 7), {(): 0, (4,): 0, (7,): 0, (4, 7): 1}), "('pair', (), 4, 7)")
+
+    def test_a_graph_and_a_matrix(self):
+        triangle = by_graph(((0, 1), (1, 2), (0, 2), (2, 2)), (3, 4, 8, 9))
+        self.shown(
+            [triangle.bases, triangle.loops, by_matrix(3, ((1, 0, 1, 0), (0, 1, 1, 0)), (3, 4, 8, 9)) == triangle],
+            "[((3, 4), (3, 8), (4, 8)), (9,), True]")
+
+    def test_matrices_over_3_and_over_2(self):
+        rows = ((1, 0, 1, 1), (0, 1, 1, 2))
+        self.shown(
+            [by_matrix(3, rows, (0, 1, 2, 3)).bases, by_matrix(2, ((1, 0, 1, 1), (0, 1, 1, 0)), (0, 1, 2, 3)).bases],
+            "[((0, 1), (0, 2), (0, 3), (1, 2), (1, 3), (2, 3)), ((0, 1), (0, 2), (1, 2), (1, 3), (2, 3))]")
+
+    def test_a_family_a_truncation_and_a_sum(self):
+        one = by_family(((0, 1), (1, 2), (1, 2)), (0, 1, 2, 3))
+        self.shown(
+            [one.bases, truncated(one).bases, summed(one, uniform(1, (5, 7))).bases],
+            "[((0, 1, 2),), ((0, 1), (0, 2), (1, 2)), ((0, 1, 2, 5), (0, 1, 2, 7))]")
+
+    def test_logs(self):
+        log = (('dual',), ('delete', (0,)), ('dual',), ('delete', (2,)))
+        self.shown(
+            [normal_of(log, (0, 1, 2, 3)), plain_of(uniform(2, (0, 1, 2, 3)), log),
+             replayed(uniform(2, (0, 1, 2, 3)), log).bases,
+             plain_of(uniform(1, (0, 1, 2, 3)), (('contract', (2, 3)),))],
+            "[(('contract', (0,)), ('delete', (2,))), (('contract', (0,)), ('delete', (2,))), ((1,), (3,)), "
+            "(('contract', (2,)), ('delete', (3,)))]")
+
+    def test_named_matroids(self):
+        self.shown(
+            [len(named('F7').bases), named('F7').circuits[0], named('K33*').rank, named('K5').circuits[:2],
+             named('U25').dual() == named('U35')],
+            "[28, (0, 1, 2), 4, ((0, 1, 4), (0, 1, 5, 7)), True]")
+
+    def test_a_cut_and_an_extension(self):
+        own = Matroid((0, 1, 2), ((0, 1), (0, 2), (1, 2)))
+        self.shown(
+            (cut_of_flats(own, ((1,),)), extended(own, 5, ((1,),)).bases, cut_of(own, 2)),
+            "(((0, 1, 2), (1,)), ((0, 1), (0, 2), (0, 5), (1, 2), (2, 5)), ((0, 1),))")
+
+    def test_all_cuts_relaxing_and_tightening(self):
+        own = Matroid((0, 1, 2), ((0,), (1,)))
+        self.shown(
+            (cuts_of(own), relaxed(own, (2,)).bases, tightened(relaxed(own, (2,)), (0,)).bases),
+            "(((), ((0, 1, 2),), ((0, 1, 2), (2,))), ((0,), (1,), (2,)), ((1,), (2,)))")

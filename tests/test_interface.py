@@ -3,16 +3,42 @@ import inspect
 import pathlib
 import unittest
 
-from rankwright import errors, limits, matroids
+from rankwright import errors, extensions, limits, logs, makers, matroids
 from rankwright.matroids import Matroid
 
 PACKAGE = pathlib.Path(limits.__file__).parent
 LIBRARY = ("__future__", "collections", "heapq", "itertools", "math")
 
 FUNCTIONS = {
-    "fault_of": ["kind", "ground", "table"],
-    "told_by": ["kind", "ground", "table"],
-    "table_of": ["matroid", "kind"],
+    matroids: {
+        "fault_of": ["kind", "ground", "table"],
+        "told_by": ["kind", "ground", "table"],
+        "table_of": ["matroid", "kind"],
+    },
+    makers: {
+        "by_matrix": ["number", "rows", "ground"],
+        "by_graph": ["edges", "ground"],
+        "by_family": ["family", "ground"],
+        "uniform": ["size", "ground"],
+        "summed": ["one", "other"],
+        "truncated": ["matroid"],
+        "named": ["name"],
+    },
+    logs: {
+        "deleted": ["matroid", "members"],
+        "contracted": ["matroid", "members"],
+        "replayed": ["matroid", "log"],
+        "normal_of": ["log", "ground"],
+        "plain_of": ["matroid", "log"],
+    },
+    extensions: {
+        "cut_of_flats": ["matroid", "flats"],
+        "extended": ["matroid", "element", "flats"],
+        "cut_of": ["matroid", "element"],
+        "cuts_of": ["matroid"],
+        "relaxed": ["matroid", "members"],
+        "tightened": ["matroid", "base"],
+    },
 }
 METHODS = {
     "__init__": ["self", "ground", "bases"],
@@ -34,11 +60,20 @@ def parameters(function):
 class InterfaceTest(unittest.TestCase):
 
     def test_functions_are_defined_in_their_file_with_their_arguments(self):
-        for name, wanted in FUNCTIONS.items():
-            with self.subTest(name=name):
-                function = getattr(matroids, name)
-                self.assertEqual(function.__module__, "rankwright.matroids")
-                self.assertEqual(parameters(function), wanted)
+        for module, functions in FUNCTIONS.items():
+            for name, wanted in functions.items():
+                with self.subTest(module=module.__name__, name=name):
+                    function = getattr(module, name)
+                    self.assertEqual(function.__module__, module.__name__)
+                    self.assertEqual(parameters(function), wanted)
+
+    def test_every_argument_may_be_passed_by_position_or_by_name_and_none_may_be_left_out(self):
+        for module, functions in FUNCTIONS.items():
+            for name in functions:
+                for parameter in inspect.signature(getattr(module, name)).parameters.values():
+                    with self.subTest(name=name, parameter=parameter.name):
+                        self.assertEqual(parameter.kind, parameter.POSITIONAL_OR_KEYWORD)
+                        self.assertIs(parameter.default, parameter.empty)
 
     def test_classes_are_defined_in_their_file(self):
         self.assertEqual(Matroid.__module__, "rankwright.matroids")
