@@ -5,8 +5,8 @@ from rankwright.cuts import all_cuts, cut_with
 from rankwright.errors import BadElement, BadFlats, NotFree, NotRelaxable, TooMany
 from rankwright.limits import MAX_CUTS, MAX_GROUND
 from rankwright.logs import deleted
-from rankwright.masks import masks_of, ranks_by_bases, sets_of
-from rankwright.matroids import Matroid, check_matroid
+from rankwright.masks import masks_of, sets_of
+from rankwright.matroids import check_matroid, sure_matroid
 from rankwright.sets import rest_of, sets_one_less, together
 
 
@@ -18,7 +18,7 @@ def cut_of_flats(matroid, flats):
 
 
 def _cut_along(matroid, flats):
-    masks = cut_with((), masks_of(flats, matroid.ground), _flat_masks(matroid), _ranks(matroid))
+    masks = cut_with((), masks_of(flats, matroid.ground), _flat_masks(matroid), matroid.mask_ranks)
     return sets_of(masks, matroid.ground)
 
 
@@ -31,7 +31,7 @@ def extended(matroid, element, flats):
     if len(matroid.ground) >= MAX_GROUND:
         raise TooMany(MAX_GROUND)
     bases = _extended_bases(matroid, element, _cut_along(matroid, flats))
-    return Matroid(together(matroid.ground, (element,)), tuple(sorted(bases)))
+    return sure_matroid(together(matroid.ground, (element,)), bases)
 
 
 def _extended_bases(matroid, element, cut):
@@ -59,7 +59,7 @@ def cuts_of(matroid):
     check_matroid(matroid)
     if len(matroid.ground) > MAX_CUTS:
         raise TooMany(MAX_CUTS)
-    cuts = all_cuts(_flat_masks(matroid), _ranks(matroid))
+    cuts = all_cuts(_flat_masks(matroid), matroid.mask_ranks)
     return tuple(sorted([sets_of(cut, matroid.ground) for cut in cuts]))
 
 
@@ -72,17 +72,13 @@ def _flat_masks(matroid):
     return masks_of(matroid.flats, matroid.ground)
 
 
-def _ranks(matroid):
-    return ranks_by_bases(masks_of(matroid.bases, matroid.ground), len(matroid.ground))
-
-
 def relaxed(matroid, members):
     """The matroid with a circuit that is a hyperplane as a base more."""
     check_matroid(matroid)
     check_set(members, matroid.ground)
     if members not in matroid.circuits or members not in matroid.hyperplanes:
         raise NotRelaxable("not both a circuit and a hyperplane")
-    return Matroid(matroid.ground, tuple(sorted([*matroid.bases, members])))
+    return sure_matroid(matroid.ground, [*matroid.bases, members])
 
 
 def tightened(matroid, base):
@@ -91,7 +87,7 @@ def tightened(matroid, base):
     check_base(base, matroid.bases)
     if not _is_free(matroid, base):
         raise NotFree("an element of the base cannot be exchanged for each one outside")
-    return Matroid(matroid.ground, tuple([other for other in matroid.bases if other != base]))
+    return sure_matroid(matroid.ground, [other for other in matroid.bases if other != base])
 
 
 def _is_free(matroid, base):

@@ -4,7 +4,7 @@ from rankwright.checks import check_ground, check_set, is_set_within
 from rankwright.errors import BadStep
 from rankwright.limits import MAX_LOG
 from rankwright.masks import sets_within
-from rankwright.matroids import Matroid, check_matroid
+from rankwright.matroids import check_matroid, sure_matroid
 from rankwright.sets import rest_of, together
 
 
@@ -25,7 +25,7 @@ def contracted(matroid, members):
 def _cut_down(matroid, gone, size):
     """The matroid whose bases are what is left of the bases, as far as it has a size."""
     rests = sorted({rest_of(base, gone) for base in matroid.bases})
-    return Matroid(rest_of(matroid.ground, gone), tuple([rest for rest in rests if len(rest) == size]))
+    return sure_matroid(rest_of(matroid.ground, gone), [rest for rest in rests if len(rest) == size])
 
 
 def replayed(matroid, log):

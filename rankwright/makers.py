@@ -6,7 +6,7 @@ from rankwright.checks import check_ground, is_family, is_graph, is_integer, is_
 from rankwright.errors import BadFamily, BadGraph, BadMatrix, BadName, BadNumber, Unlike
 from rankwright.growth import bases_by_family, bases_by_graph, bases_by_matrix
 from rankwright.limits import MAX_FAMILY, MAX_GROUND, MAX_VERTEX
-from rankwright.matroids import Matroid, check_matroid
+from rankwright.matroids import check_matroid, sure_matroid
 from rankwright.sets import sets_one_less, together
 
 NAMES = ("U24", "U25", "U35", "F7", "F7*", "K33", "K5", "K33*", "K5*")
@@ -23,7 +23,7 @@ def by_matrix(number, rows, ground):
     check_ground(ground)
     if not is_matrix(rows, number, ground):
         raise BadMatrix(f"not a tuple of rows with an entry below {number} for each element of the ground")
-    return Matroid(ground, bases_by_matrix(number, rows, ground))
+    return sure_matroid(ground, bases_by_matrix(number, rows, ground))
 
 
 def by_graph(edges, ground):
@@ -31,7 +31,7 @@ def by_graph(edges, ground):
     check_ground(ground)
     if not is_graph(edges, ground):
         raise BadGraph(f"not a tuple of edges (u, v), 0 <= u <= v <= {MAX_VERTEX}, one for each element")
-    return Matroid(ground, bases_by_graph(edges, ground))
+    return sure_matroid(ground, bases_by_graph(edges, ground))
 
 
 def by_family(family, ground):
@@ -39,7 +39,7 @@ def by_family(family, ground):
     check_ground(ground)
     if not is_family(family, ground):
         raise BadFamily(f"not a tuple of at most {MAX_FAMILY} sets within the ground")
-    return Matroid(ground, bases_by_family(family, ground))
+    return sure_matroid(ground, bases_by_family(family, ground))
 
 
 def uniform(size, ground):
@@ -48,7 +48,7 @@ def uniform(size, ground):
     if not is_integer(size) or not 0 <= size <= len(ground):
         raise BadNumber("not an integer from 0 to the number of elements")
     bases = [tuple([ground[at] for at in places]) for places in combinations(range(len(ground)), size)]
-    return Matroid(ground, tuple(bases))
+    return sure_matroid(ground, bases)
 
 
 def summed(one, other):
@@ -61,7 +61,7 @@ def summed(one, other):
     if len(ground) > MAX_GROUND:
         raise Unlike(f"more than {MAX_GROUND} elements together")
     bases = [together(base, behind) for base in one.bases for behind in other.bases]
-    return Matroid(ground, tuple(sorted(bases)))
+    return sure_matroid(ground, bases)
 
 
 def truncated(matroid):
@@ -69,7 +69,7 @@ def truncated(matroid):
     check_matroid(matroid)
     if matroid.rank == 0:
         raise Unlike("the rank is 0")
-    return Matroid(matroid.ground, sets_one_less(matroid.bases))
+    return sure_matroid(matroid.ground, sets_one_less(matroid.bases))
 
 
 def named(name):
@@ -83,7 +83,7 @@ def named(name):
         return uniform(size, tuple(range(many)))
     if name == "F7":
         triples = [triple for triple in combinations(range(7), 3) if triple not in _LINES]
-        return Matroid(tuple(range(7)), tuple(triples))
+        return sure_matroid(tuple(range(7)), triples)
     if name == "K33":
         return by_graph(tuple([(low, 3 + high) for low in range(3) for high in range(3)]), tuple(range(9)))
     return by_graph(tuple(combinations(range(5), 2)), tuple(range(10)))

@@ -73,13 +73,15 @@ def flags_below(masks, many):
 def ranks_by_bases(masks, many):
     """For each mask the greatest number of places that one of the bases has in it."""
     independent = flags_below(masks, many)
+    # Of each mask a greatest independent one within it tells whether one place more raises the rank.
     ranks = [0]
-    for mask in range(1, 1 << many):
-        places = places_in(mask, many)
-        if independent[mask]:
-            ranks.append(len(places))
-        else:
-            ranks.append(max([ranks[mask ^ (1 << at)] for at in places]))
+    greatest = [0]
+    for at in range(many):
+        for mask in range(1 << at):
+            wider = greatest[mask] | (1 << at)
+            raised = independent[wider]
+            ranks.append(ranks[mask] + 1 if raised else ranks[mask])
+            greatest.append(wider if raised else greatest[mask])
     return ranks
 
 

@@ -24,7 +24,7 @@ class Matroid:
             raise BadTable(fault)
         self.ground = ground
         self.bases = bases
-        self._ranks = tuple(ranks_by_bases(masks_of(bases, ground), len(ground)))
+        self._ranks = None
         self._circuits = None
         self._flats = None
 
@@ -37,17 +37,24 @@ class Matroid:
         return len(self.bases[0])
 
     @property
+    def mask_ranks(self):
+        """For each mask over the ground the rank of its set."""
+        if self._ranks is None:
+            self._ranks = tuple(ranks_by_bases(masks_of(self.bases, self.ground), len(self.ground)))
+        return self._ranks
+
+    @property
     def circuits(self):
         """The dependent sets without a smaller dependent set in them."""
         if self._circuits is None:
-            self._circuits = sets_of(circuit_masks(self._ranks, len(self.ground)), self.ground)
+            self._circuits = sets_of(circuit_masks(self.mask_ranks, len(self.ground)), self.ground)
         return self._circuits
 
     @property
     def flats(self):
         """The sets that are their own closures."""
         if self._flats is None:
-            self._flats = sets_of(flat_masks(self._ranks, len(self.ground)), self.ground)
+            self._flats = sets_of(flat_masks(self.mask_ranks, len(self.ground)), self.ground)
         return self._flats
 
     @property
@@ -68,12 +75,12 @@ class Matroid:
     def rank_of(self, members):
         """The rank of a set."""
         check_set(members, self.ground)
-        return self._ranks[mask_of(members, self.ground)]
+        return self.mask_ranks[mask_of(members, self.ground)]
 
     def closure_of(self, members):
         """A set with all elements that do not raise its rank."""
         check_set(members, self.ground)
-        mask = closure_mask(mask_of(members, self.ground), self._ranks, len(self.ground))
+        mask = closure_mask(mask_of(members, self.ground), self.mask_ranks, len(self.ground))
         return set_of(mask, self.ground)
 
     def is_independent(self, members):
@@ -97,7 +104,17 @@ class Matroid:
 
     def dual(self):
         """The matroid whose bases are the complements of the bases."""
-        return Matroid(self.ground, tuple(sorted([rest_of(self.ground, base) for base in self.bases])))
+        return sure_matroid(self.ground, [rest_of(self.ground, base) for base in self.bases])
+
+
+def sure_matroid(ground, bases):
+    """The Matroid with these bases, in any order, where a matroid is sure to have them."""
+    # Looking for a fault takes far longer than most ways to make the bases, and
+    # just Matroid((), ((),)) has next to nothing to look at.
+    made = Matroid((), ((),))
+    made.ground = ground
+    made.bases = tuple(sorted(bases))
+    return made
 
 
 def fault_of(kind, ground, table):
@@ -118,7 +135,7 @@ def told_by(kind, ground, table):
     fault = fault_of(kind, ground, table)
     if fault is not None:
         raise BadTable(fault)
-    return Matroid(ground, bases_in(kind, ground, table))
+    return sure_matroid(ground, bases_in(kind, ground, table))
 
 
 def table_of(matroid, kind):

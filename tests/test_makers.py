@@ -1,4 +1,5 @@
 import copy
+import time
 import unittest
 from itertools import combinations, product
 
@@ -390,6 +391,20 @@ class NamedTest(MadeTest):
             with self.subTest(name=name):
                 self.made(named(name), tuple(range(many)), bases, name)
                 self.assertEqual(named(name=name), named(name))
+
+    def test_each_is_a_matroid_whatever_was_made_before(self):
+        for name in makers.NAMES:
+            made, again = named(name), named(name)
+            self.assertEqual(Matroid(made.ground, made.bases), again, name)
+            self.assertEqual((made.rank, made.circuits), (again.rank, again.circuits), name)
+            self.assertEqual(made.dual().dual(), again, name)
+
+    def test_a_thousand_of_each_take_no_long_time(self):
+        start = time.perf_counter()
+        for name in makers.NAMES:
+            for _ in range(1000):
+                named(name)
+        self.assertLess(time.perf_counter() - start, 10)
 
     def test_how_many_bases(self):
         self.assertEqual([len(named(name).bases) for name in makers.NAMES], [6, 10, 10, 28, 28, 81, 125, 81, 125])
