@@ -43,7 +43,10 @@ def places_outside(mask, many):
 
 def sizes_of_masks(many):
     """For each mask the number of its places."""
-    return [len(places_in(mask, many)) for mask in range(1 << many)]
+    sizes = [0]
+    for _ in range(many):
+        sizes = sizes + [size + 1 for size in sizes]
+    return sizes
 
 
 def flags_above(masks, many):

@@ -2,10 +2,14 @@
 
 import unittest
 
+from rankwright.classes import binary_of, is_graph_of, is_of, is_way, least_way, ternary_of
+from rankwright.errors import BadName
 from rankwright.extensions import cut_of, cut_of_flats, cuts_of, extended, relaxed, tightened
+from rankwright.likeness import apart_tree, form_of, mapping_between, symmetry_count
 from rankwright.logs import normal_of, plain_of, replayed
 from rankwright.makers import by_family, by_graph, by_matrix, named, summed, truncated, uniform
 from rankwright.matroids import Matroid, fault_of, told_by
+from rankwright.pieces import joined_of, parts_of, pieces_of, splits_of
 
 
 class ExamplesTest(unittest.TestCase):
@@ -81,3 +85,50 @@ class ExamplesTest(unittest.TestCase):
         self.shown(
             (cuts_of(own), relaxed(own, (2,)).bases, tightened(relaxed(own, (2,)), (0,)).bases),
             "(((), ((0, 1, 2),), ((0, 1, 2), (2,))), ((0,), (1,), (2,)), ((1,), (2,)))")
+
+    def test_an_apart_tree_and_mappings(self):
+        one, other = Matroid((0, 1), ((0, 1),)), Matroid((0, 1), ((0,),))
+        self.shown(
+            (apart_tree(one, other), mapping_between(one, other), mapping_between(other, Matroid((4, 7), ((7,),)))),
+            "((((0, 1), (0, 1)), ((1,), (0,))), None, (7, 4))")
+
+    def test_a_form_and_symmetries(self):
+        own = Matroid((3, 5, 9, 11), ((3, 9), (3, 11), (5, 9), (5, 11), (9, 11)))
+        self.shown(
+            (form_of(own), symmetry_count(own)),
+            "((4, ((0, 1), (0, 2), (0, 3), (1, 2), (1, 3))), 4)")
+
+    def test_normal_matrices(self):
+        self.shown(
+            (binary_of(named('F7')), ternary_of(named('F7'))),
+            "(((1, 0, 1, 0, 1, 0, 1), (0, 1, 1, 0, 0, 1, 1), (0, 0, 0, 1, 1, 1, 1)), None)")
+        self.shown(
+            (ternary_of(uniform(2, (5, 6, 7, 9))), binary_of(uniform(2, (5, 6, 7, 9)))),
+            "(((1, 0, 1, 1), (0, 1, 1, 2)), None)")
+        self.shown(
+            ternary_of(by_graph(((0, 1), (0, 2), (0, 3), (1, 2), (1, 3), (2, 3)), (0, 1, 2, 3, 4, 5))),
+            "((1, 0, 0, 1, 1, 0), (0, 1, 0, 1, 0, 1), (0, 0, 1, 0, 1, 2))")
+
+    def test_classes(self):
+        self.shown(
+            [is_of(named('F7'), 'binary'), is_of(named('F7'), 'graphic'), is_of(named('K33*'), 'graphic'),
+             is_of(named('K33*'), 'cographic')],
+            "[True, False, False, True]")
+        self.assertRaises(BadName, is_of, uniform(2, (0, 1, 2)), 'unimodular')
+
+    def test_graphs_of_a_triangle(self):
+        things = (((0, 1), (1, 2), (0, 2)), ((3, 10), (3, 9), (9, 10)), ((0, 1), (0, 1), (1, 2)),
+                  ((1, 0), (1, 2), (0, 2)))
+        self.shown([is_graph_of(uniform(2, (0, 1, 2)), thing) for thing in things], "[True, True, False, False]")
+
+    def test_ways(self):
+        self.shown(least_way(uniform(3, (0, 1, 2, 3, 4)), "binary"), "('U24', (0, 1, 2, 3), (4,))")
+        self.shown(is_way(named("F7"), ("F7", (1, 0, 2, 3, 4, 5, 6), ())), "False")
+
+    def test_parts_splits_and_pieces(self):
+        self.shown(parts_of(Matroid((4, 7, 9), ((4, 9),))), "((4,), (7,), (9,))")
+        self.shown(splits_of(uniform(3, (0, 1, 2, 3))), "((0, 1), (0, 2), (0, 3))")
+        graph = by_graph(((0, 1), (1, 2), (2, 3), (0, 3), (0, 2)), (0, 1, 2, 3, 4))
+        self.shown([piece.ground for piece in pieces_of(graph)], "[(0, 1, 150), (2, 3, 151), (4, 150, 151)]")
+        self.shown(
+            joined_of((Matroid((0, 1), ((0,), (1,))), Matroid((1, 5), ((1,), (5,))))).bases, "((0,), (5,))")

@@ -3,7 +3,7 @@ import inspect
 import pathlib
 import unittest
 
-from rankwright import errors, extensions, limits, logs, makers, matroids
+from rankwright import classes, errors, extensions, likeness, limits, logs, makers, matroids, pieces
 from rankwright.matroids import Matroid
 
 PACKAGE = pathlib.Path(limits.__file__).parent
@@ -38,6 +38,32 @@ FUNCTIONS = {
         "cuts_of": ["matroid"],
         "relaxed": ["matroid", "members"],
         "tightened": ["matroid", "base"],
+    },
+    likeness: {
+        "mapping_between": ["one", "other"],
+        "is_mapping": ["one", "other", "thing"],
+        "apart_tree": ["one", "other"],
+        "is_apart_tree": ["one", "other", "thing"],
+        "form_of": ["matroid"],
+        "symmetry_count": ["matroid"],
+    },
+    classes: {
+        "binary_of": ["matroid"],
+        "ternary_of": ["matroid"],
+        "graph_of": ["matroid"],
+        "is_graph_of": ["matroid", "thing"],
+        "is_of": ["matroid", "name"],
+        "least_way": ["matroid", "name"],
+        "is_way": ["matroid", "thing"],
+        "forbidden": ["name"],
+    },
+    pieces: {
+        "parts_of": ["matroid"],
+        "splits_of": ["matroid"],
+        "good_splits_of": ["matroid"],
+        "two_sum": ["one", "other"],
+        "pieces_of": ["matroid"],
+        "joined_of": ["pieces"],
     },
 }
 METHODS = {
