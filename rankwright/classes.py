@@ -9,6 +9,8 @@ from rankwright.matrices import normal_matrix
 from rankwright.matroids import check_matroid
 from rankwright.ways import is_way_in, least_way_to
 
+CLASSES = ("binary", "cographic", "graphic", "planar", "regular", "ternary")
+
 _FORBIDDEN = {
     "binary": ("U24",),
     "ternary": ("U25", "U35", "F7", "F7*"),
@@ -67,11 +69,20 @@ def least_way(matroid, name):
     """The least way to a forbidden matroid of a class, or None."""
     if is_of(matroid, name):
         return None
-    for goal in sorted(forbidden(name), key=_many_of):
+    for goal in sorted(_goals(matroid, name), key=_many_of):
         way = least_way_to(matroid, goal)
         if way is not None:
             return way
     return None
+
+
+def _goals(matroid, name):
+    """The names of the forbidden matroids, but for those to which there surely is no way."""
+    # A way to one that is not of a class shows that the matroid is not of it.
+    missing = ()
+    if is_of(matroid, "binary"):
+        missing = ("U24", "U25", "U35", "F7", "F7*") if is_of(matroid, "ternary") else ("U24", "U25", "U35")
+    return [goal for goal in forbidden(name) if goal not in missing]
 
 
 def _many_of(name):

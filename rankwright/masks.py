@@ -108,3 +108,11 @@ def is_circuit_mask(mask, ranks, many):
 def flat_masks(ranks, many):
     """The masks that are their own closures."""
     return [mask for mask in range(1 << many) if closure_mask(mask, ranks, many) == mask]
+
+
+def common_mask(masks):
+    """The places that all of some masks have, of which there is one at least."""
+    common = masks[0]
+    for mask in masks:
+        common = common & mask
+    return common

@@ -3,13 +3,19 @@
 import unittest
 
 from rankwright.classes import binary_of, is_graph_of, is_of, is_way, least_way, ternary_of
-from rankwright.errors import BadName
+from rankwright.commons import greatest_common, is_cover, least_cover
+from rankwright.editors import Editor, PairEditor
+from rankwright.errors import BadName, NotRelaxable
 from rankwright.extensions import cut_of, cut_of_flats, cuts_of, extended, relaxed, tightened
 from rankwright.likeness import apart_tree, form_of, mapping_between, symmetry_count
 from rankwright.logs import normal_of, plain_of, replayed
 from rankwright.makers import by_family, by_graph, by_matrix, named, summed, truncated, uniform
 from rankwright.matroids import Matroid, fault_of, told_by
+from rankwright.packings import (
+    are_families, chain_of, even_families, greatest_packing, is_bound, is_packing, least_bound,
+)
 from rankwright.pieces import joined_of, parts_of, pieces_of, splits_of
+from rankwright.texts import read, write
 
 
 class ExamplesTest(unittest.TestCase):
@@ -132,3 +138,65 @@ class ExamplesTest(unittest.TestCase):
         self.shown([piece.ground for piece in pieces_of(graph)], "[(0, 1, 150), (2, 3, 151), (4, 150, 151)]")
         self.shown(
             joined_of((Matroid((0, 1), ((0,), (1,))), Matroid((1, 5), ((1,), (5,))))).bases, "((0,), (5,))")
+
+    def test_a_text(self):
+        self.shown(write(read("ground 7 199\nbase 7\nbase 199")), repr("ground 7 199\nbase 7\nbase 199"))
+
+    def test_common_sets(self):
+        one = Matroid((0, 1, 2, 3), ((0, 2), (0, 3), (1, 2), (1, 3)))
+        other = Matroid((0, 1, 2, 3), ((0, 1), (0, 3), (1, 2), (2, 3)))
+        self.shown(
+            (greatest_common(one, other), least_cover(one, other), is_cover(one, other, (0, 3), (0, 1, 2, 3))),
+            "((0, 3), (), True)")
+
+    def test_chains_and_bounds(self):
+        own = by_graph(((0, 1), (0, 2), (0, 3), (1, 2), (1, 3), (2, 3)), (0, 1, 2, 3, 4, 5))
+        self.shown(
+            (chain_of(own), least_bound(own, 1), least_bound(own, 2), [len(one) for one in greatest_packing(own, 2)]),
+            "(((), (0, 1, 2, 3, 4, 5)), (0, 1, 2, 3, 4, 5), (), [3, 3])")
+        self.shown(
+            chain_of(by_graph(((0, 1), (0, 1), (0, 1), (2, 3), (3, 4), (2, 4), (5, 6)), (0, 2, 4, 6, 8, 10, 12))),
+            "((), (0, 2, 4), (0, 2, 4, 6, 8, 10), (0, 2, 4, 6, 8, 10, 12))")
+
+    def test_even_families(self):
+        own = uniform(2, (0, 1, 2))
+        self.shown(
+            (even_families(own), are_families(own, ((), (0,), (0, 1, 2)), (((0,),), ((1,), (2,))))),
+            "((((0, 1), (0, 2), (1, 2)),), False)")
+
+    def test_a_bound_and_a_packing(self):
+        own = Matroid((3, 7, 9), ((3,), (7,)))
+        self.shown(
+            (least_bound(own, 2), is_bound(own, 2, ((3,), (7,)), (3, 7, 9)), is_packing(own, 2, ((3,), (3,)))),
+            "((9,), True, False)")
+
+    def test_an_editor_that_contracts(self):
+        editor = Editor(Matroid((0, 1, 2, 3), ((0, 1), (0, 2), (0, 3), (1, 2), (1, 3), (2, 3))))
+        self.shown(
+            [editor.verdicts['binary'], editor.verdicts['ternary'], editor.contract(1), editor.verdicts['binary'],
+             editor.stayed],
+            "[('no', ('U24', (0, 1, 2, 3), ())), ('yes',), (((0,), (2,), (3,)), ((0, 1), (0, 2), (0, 3), (1, 2), "
+            "(1, 3), (2, 3)), ((0, 2), (0, 3), (2, 3)), ((0, 1, 2), (0, 1, 3), (0, 2, 3), (1, 2, 3)), (0, 2)), "
+            "('yes',), ('ternary',)]")
+
+    def test_an_editor_that_relaxes_and_tightens(self):
+        editor = Editor(Matroid((0, 1, 2), ((0, 1), (0, 2))))
+        self.shown(
+            [editor.relax((1, 2)), editor.tighten((1, 2)), editor.grow(5, ())[0], editor.undoable],
+            "[(((1, 2),), (), ((0, 1, 2),), ((1, 2),), (1, 2)), ((), ((1, 2),), ((1, 2),), ((0, 1, 2),), (1, 2)), "
+            "((0, 1, 5), (0, 2, 5)), 3]")
+        editor = Editor(Matroid((0, 1, 2), ((0, 1), (0, 2))))
+        self.assertRaises(NotRelaxable, editor.relax, (0, 1))
+
+    def test_a_pair_editor(self):
+        pair = PairEditor(Matroid((0, 1, 2), ((0, 2), (1, 2))), Matroid((4, 5, 6), ((4, 5), (4, 6))))
+        self.shown(
+            [pair.mapping, pair.delete(0, 5), pair.mapping, pair.contract(1, 4), pair.mapping],
+            "[(5, 6, 4), 'kept', (6, 4), 'new', (6,)]")
+
+    def test_an_editor_that_turns(self):
+        editor = Editor(Matroid((0, 1, 2, 3), ((0, 1), (0, 2), (0, 3), (1, 2), (1, 3), (2, 3))))
+        self.shown(
+            [editor.turn(), editor.stayed, editor.undo(), editor.stayed],
+            "[((), (), (), (), None), ('binary', 'cographic', 'graphic', 'planar', 'regular', 'ternary'), "
+            "((), (), (), (), None), ('binary', 'cographic', 'graphic', 'planar', 'regular', 'ternary')]")

@@ -3,7 +3,11 @@ import inspect
 import pathlib
 import unittest
 
-from rankwright import classes, errors, extensions, likeness, limits, logs, makers, matroids, pieces
+from rankwright import (
+    classes, commons, editors, errors, extensions, likeness, limits, logs, makers, matroids, packings, pieces, texts,
+)
+from rankwright.editors import Editor, PairEditor
+from rankwright.makers import uniform
 from rankwright.matroids import Matroid
 
 PACKAGE = pathlib.Path(limits.__file__).parent
@@ -65,18 +69,61 @@ FUNCTIONS = {
         "pieces_of": ["matroid"],
         "joined_of": ["pieces"],
     },
+    commons: {
+        "greatest_common": ["one", "other"],
+        "least_cover": ["one", "other"],
+        "is_cover": ["one", "other", "common", "thing"],
+    },
+    packings: {
+        "greatest_packing": ["matroid", "many"],
+        "least_bound": ["matroid", "many"],
+        "is_packing": ["matroid", "many", "thing"],
+        "is_bound": ["matroid", "many", "packing", "thing"],
+        "chain_of": ["matroid"],
+        "even_families": ["matroid"],
+        "are_families": ["matroid", "sets", "thing"],
+    },
+    texts: {
+        "write": ["matroid"],
+        "read": ["source"],
+    },
 }
 METHODS = {
-    "__init__": ["self", "ground", "bases"],
-    "__eq__": ["self", "other"],
-    "rank_of": ["self", "members"],
-    "closure_of": ["self", "members"],
-    "is_independent": ["self", "members"],
-    "circuit_in": ["self", "members"],
-    "fundamental": ["self", "base", "element"],
-    "dual": ["self"],
+    Matroid: {
+        "__init__": ["self", "ground", "bases"],
+        "__eq__": ["self", "other"],
+        "rank_of": ["self", "members"],
+        "closure_of": ["self", "members"],
+        "is_independent": ["self", "members"],
+        "circuit_in": ["self", "members"],
+        "fundamental": ["self", "base", "element"],
+        "dual": ["self"],
+    },
+    Editor: {
+        "__init__": ["self", "matroid"],
+        "delete": ["self", "element"],
+        "contract": ["self", "element"],
+        "grow": ["self", "element", "flats"],
+        "relax": ["self", "members"],
+        "tighten": ["self", "base"],
+        "turn": ["self"],
+        "exchange": ["self", "other"],
+        "undo": ["self"],
+    },
+    PairEditor: {
+        "__init__": ["self", "one", "other"],
+        "delete": ["self", "one", "other"],
+        "contract": ["self", "one", "other"],
+        "grow": ["self", "one", "other"],
+        "relax": ["self", "one", "other"],
+        "turn": ["self"],
+    },
 }
-PROPERTIES = ["rank", "circuits", "flats", "hyperplanes", "loops", "coloops"]
+PROPERTIES = {
+    Matroid: ["rank", "circuits", "flats", "hyperplanes", "loops", "coloops"],
+    Editor: ["matroid", "verdicts", "stayed", "undoable"],
+    PairEditor: ["pair", "mapping"],
+}
 
 
 def parameters(function):
@@ -103,19 +150,31 @@ class InterfaceTest(unittest.TestCase):
 
     def test_classes_are_defined_in_their_file(self):
         self.assertEqual(Matroid.__module__, "rankwright.matroids")
+        self.assertEqual((Editor.__module__, PairEditor.__module__), ("rankwright.editors",) * 2)
         for name, thing in vars(errors).items():
             if inspect.isclass(thing):
                 self.assertEqual(thing.__module__, "rankwright.errors", name)
 
     def test_methods_are_defined_in_the_class_with_their_arguments(self):
-        for name, wanted in METHODS.items():
-            with self.subTest(name=name):
-                self.assertEqual(parameters(vars(Matroid)[name]), wanted)
+        for kind, methods in METHODS.items():
+            for name, wanted in methods.items():
+                with self.subTest(kind=kind.__name__, name=name):
+                    self.assertEqual(parameters(vars(kind)[name]), wanted)
+                    for parameter in inspect.signature(vars(kind)[name]).parameters.values():
+                        self.assertEqual(parameter.kind, parameter.POSITIONAL_OR_KEYWORD)
+                        self.assertIs(parameter.default, parameter.empty)
 
     def test_properties_are_defined_in_the_class(self):
-        for name in PROPERTIES:
-            with self.subTest(name=name):
-                self.assertIsInstance(vars(Matroid)[name], property)
+        for kind, names in PROPERTIES.items():
+            for name in names:
+                with self.subTest(kind=kind.__name__, name=name):
+                    self.assertIsInstance(vars(kind)[name], property)
+
+    def test_properties_cannot_be_assigned(self):
+        one = uniform(1, (0, 1))
+        for made, kind in ((one, Matroid), (Editor(one), Editor), (PairEditor(one, one), PairEditor)):
+            for name in PROPERTIES[kind]:
+                self.assertRaises(AttributeError, setattr, made, name, None)
 
     def test_attributes_are_set_when_a_matroid_is_made(self):
         made = vars(Matroid((3, 5), ((3,),)))
