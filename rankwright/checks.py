@@ -39,6 +39,13 @@ def is_set_within(thing, ground):
     return is_set(thing) and all([one in ground for one in thing])
 
 
+def is_order_of(thing, ground):
+    """Whether thing is a tuple of different elements of the ground, in any order."""
+    if not isinstance(thing, tuple) or not all([is_element_of(one, ground) for one in thing]):
+        return False
+    return is_ascending(sorted(thing))
+
+
 def are_sets_within(thing, ground):
     """Whether thing is an ascending tuple of different sets within the ground."""
     if not isinstance(thing, tuple):

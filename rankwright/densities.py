@@ -66,12 +66,13 @@ def even_sets(inner, outer, ranks):
 def _base_that_leaves(needed, left, bases, ranks):
     """The first base without which so many bases can have all elements as often as they are still needed.
 
-    They can just if no number is below 0 and no mask is needed more often than
-    so many bases can have it; as long as that holds, there always is such a base.
+    They can just if no mask is needed more often than so many bases can have it,
+    for as many elements are needed then as so many bases have. As long as that
+    holds, there always is such a base.
     """
     for base in bases:
-        rest = _without(base, needed)
-        if min(rest) >= 0 and all([total <= left * rank for total, rank in zip(_totals(rest), ranks)]):
+        totals = _totals(_without(base, needed))
+        if all([total <= left * rank for total, rank in zip(totals, ranks)]):
             return base
     return None
 

@@ -110,14 +110,10 @@ class PairEditor:
     """Two matroids that are edited at once, with a mapping if they are alike."""
 
     def __init__(self, one, other):
-        check_matroid(one)
-        check_matroid(other)
-        if len(one.ground) != len(other.ground):
-            raise Unlike("not as many elements")
+        # What is no pair is refused there.
+        self._mapping = mapping_between(one, other)
         self._one = one
         self._other = other
-        # More elements than a pair can have are refused there.
-        self._mapping = mapping_between(one, other)
 
     @property
     def pair(self):
@@ -132,13 +128,12 @@ class PairEditor:
     def delete(self, one, other):
         """Delete an element of each."""
         self._check_elements(one, other)
-        return self._edit(deleted(self._one, (one,)), deleted(self._other, (other,)), self._images_without(one, other))
+        return self._edit(deleted(self._one, (one,)), deleted(self._other, (other,)), self._images())
 
     def contract(self, one, other):
         """Contract an element of each."""
         self._check_elements(one, other)
-        made = contracted(self._one, (one,))
-        return self._edit(made, contracted(self._other, (other,)), self._images_without(one, other))
+        return self._edit(contracted(self._one, (one,)), contracted(self._other, (other,)), self._images())
 
     def grow(self, one, other):
         """Extend each by a new element along flats."""
@@ -171,16 +166,9 @@ class PairEditor:
             return {}
         return {element: image for element, image in zip(self._one.ground, self._mapping)}
 
-    def _images_without(self, one, other):
-        """The images without an element that is taken to another one; none if it is not."""
-        images = self._images()
-        if images.get(one) != other:
-            return {}
-        return {element: images[element] for element in images if element != one}
-
     def _edit(self, made, behind, images):
-        """Take what an edit has made of the two, with a mapping by the images if these are one."""
-        # Without a mapping before, or if the images lack an element, no tuple of all of them can be made.
+        """Take what an edit has made of the two, with the images of what is left as a mapping if they are one."""
+        # They are none if one of them has gone, or if there was no mapping.
         thing = tuple([images[element] for element in made.ground if element in images])
         kept = self._mapping is not None and is_mapping(made, behind, thing)
         self._mapping = thing if kept else mapping_between(made, behind)

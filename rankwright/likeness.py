@@ -4,7 +4,7 @@ from itertools import permutations
 from math import factorial
 
 from rankwright.apart import least_pairs
-from rankwright.checks import is_ascending, is_element_of, is_set_within
+from rankwright.checks import is_ascending, is_order_of, is_set_within
 from rankwright.errors import TooMany, Unlike
 from rankwright.limits import MAX_FORM, MAX_PAIR, MAX_TREE
 from rankwright.masks import masks_of, places_in, set_of
@@ -24,7 +24,7 @@ def is_mapping(one, other, thing):
     """Whether thing is a mapping from one matroid to another one."""
     check_matroid(one)
     check_matroid(other)
-    if not _is_path(thing, other.ground) or not len(thing) == len(one.ground) == len(other.ground):
+    if not is_order_of(thing, other.ground) or not len(thing) == len(one.ground) == len(other.ground):
         return False
     images = {element: image for element, image in zip(one.ground, thing)}
     bases = [tuple(sorted([images[element] for element in base])) for base in one.bases]
@@ -53,19 +53,13 @@ def is_apart_tree(one, other, thing):
 
 def _is_pair(thing, one, other):
     """Whether thing is a path with a set of elements whose rank is not that of their images."""
-    if not isinstance(thing, tuple) or len(thing) != 2 or not _is_path(thing[0], other.ground):
+    if not isinstance(thing, tuple) or len(thing) != 2 or not is_order_of(thing[0], other.ground):
         return False
     path, members = thing
     if not is_set_within(members, one.ground[:len(path)]):
         return False
     images = [image for element, image in zip(one.ground, path) if element in members]
     return one.rank_of(members) != other.rank_of(tuple(sorted(images)))
-
-
-def _is_path(thing, ground):
-    if not isinstance(thing, tuple) or not all([is_element_of(element, ground) for element in thing]):
-        return False
-    return is_ascending(sorted(thing))
 
 
 def _is_met_once(paths, many):

@@ -57,8 +57,8 @@ def least_bound(matroid, many):
     check_matroid(matroid)
     _check_number(many)
     sizes = sizes_of_masks(len(matroid.ground))
-    worths = [sizes[-1] - size + many * rank for size, rank in zip(sizes, matroid.mask_ranks)]
-    # No packing has more elements than any of these numbers, and the greatest ones have the least of them.
+    # A bound has the least of these numbers: what is outside a set is as many as all less its size.
+    worths = [many * rank - size for size, rank in zip(sizes, matroid.mask_ranks)]
     least = min(worths)
     bounds = [mask for mask, worth in enumerate(worths) if worth == least]
     return set_of(common_mask(bounds), matroid.ground)

@@ -50,8 +50,9 @@ def _split_masks(matroid):
 
 
 def _crosses_one(split, splits, full):
+    # All splits have the least element in common.
     for other in splits:
-        if split & other and split & ~other and other & ~split and (split | other) != full:
+        if split & ~other and other & ~split and (split | other) != full:
             return True
     return False
 
@@ -98,7 +99,7 @@ def _cut_along(matroid, cuts):
 def _cuts_within(side, ground, cuts):
     """The cuts of which a side lies within one side of the cut just made; that side stays as it is."""
     sides = [(marker, other) for marker, other in cuts] + [(marker, rest_of(ground, other)) for marker, other in cuts]
-    return sorted([(marker, other) for marker, other in sides if is_within(other, side)])
+    return [(marker, other) for marker, other in sides if is_within(other, side)]
 
 
 def _cut_off(matroid, side, rest, marker):

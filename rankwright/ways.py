@@ -2,7 +2,7 @@
 
 from itertools import combinations
 
-from rankwright.checks import is_ascending, is_element_of, is_set_within
+from rankwright.checks import is_order_of, is_set_within
 from rankwright.makers import NAMES, named
 from rankwright.masks import mask_of, places_in, sets_within
 from rankwright.orders import images_of, least_order, ranks_at
@@ -56,7 +56,7 @@ def is_way_in(matroid, thing):
     if not isinstance(thing, tuple) or len(thing) != 3:
         return False
     name, order, contracted = thing
-    if not isinstance(name, str) or name not in NAMES or not _is_order(order, matroid.ground):
+    if not isinstance(name, str) or name not in NAMES or not is_order_of(order, matroid.ground):
         return False
     goal = named(name)
     if len(order) != len(goal.ground) or not is_set_within(contracted, rest_of(matroid.ground, order)):
@@ -64,9 +64,3 @@ def is_way_in(matroid, thing):
     images = images_of([matroid.ground.index(element) for element in order])
     gone = mask_of(contracted, matroid.ground)
     return ranks_at(images, matroid.mask_ranks, gone) == goal.mask_ranks
-
-
-def _is_order(thing, ground):
-    if not isinstance(thing, tuple) or not all([is_element_of(element, ground) for element in thing]):
-        return False
-    return is_ascending(sorted(thing))

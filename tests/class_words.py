@@ -1,6 +1,6 @@
 """What DOC.md [10] to [12] say, word by word and slowly, for tests to compare with."""
 
-from itertools import permutations, product
+from itertools import combinations, permutations, product
 
 from rankwright.makers import named
 from tests import making_words, words
@@ -88,11 +88,10 @@ def graphs(many, last=-1):
 
 def minor(matroid, order, contracted):
     """The bases when all others are deleted, a set contracted, and order[i] renamed to i."""
-    gone = words.without(matroid.ground, *order, *contracted)
-    rest = words.without(matroid.ground, *gone)
-    bases = making_words.bases_by_ranks(making_words.ranks_without(matroid.ground, matroid.bases, gone))
-    bases = making_words.bases_by_ranks(making_words.ranks_after_contracting(rest, bases, contracted))
-    return tuple(sorted(tuple(sorted(order.index(x) for x in base)) for base in bases))
+    def rank(members):
+        return words.rank(matroid.bases, words.together(members, contracted)) - words.rank(matroid.bases, contracted)
+    return tuple(places for places in combinations(range(len(order)), rank(order))
+                 if rank(tuple(order[at] for at in places)) == len(places))
 
 
 def is_way(matroid, name, order, contracted):
@@ -113,6 +112,7 @@ def least_way(matroid, kind):
 
 def ways_to(matroid, name):
     goal = named(name)
+    wanted = set(goal.bases)
     kept = {}
     for order in permutations(matroid.ground, len(goal.ground)):
         chosen = tuple(sorted(order))
@@ -122,5 +122,6 @@ def ways_to(matroid, name):
             kept[chosen] = [(gone, bases) for gone, bases in minors if len(bases) == len(goal.bases)]
         at = [order.index(x) for x in chosen]
         for gone, bases in kept[chosen]:
-            if set(tuple(sorted(at[x] for x in base)) for base in bases) == set(goal.bases):
+            # There are as many bases, so that none may be left over if each has its like.
+            if all(tuple(sorted([at[x] for x in base])) in wanted for base in bases):
                 yield order, len(gone), gone

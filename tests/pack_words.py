@@ -1,9 +1,9 @@
 """What DOC.md [16] to [18] say, word by word and slowly, for tests to compare with."""
 
-from itertools import combinations_with_replacement, product
+from itertools import combinations, combinations_with_replacement, product
 from math import gcd
 
-from tests import making_words, words
+from tests import words
 
 
 # [16]
@@ -98,9 +98,10 @@ def chain(matroid):
 
 def step_bases(matroid, inner, outer):
     """The bases of the matroid on what an outer set has more than an inner one."""
-    kept = making_words.ranks_without(matroid.ground, matroid.bases, words.without(matroid.ground, *outer))
-    bases = making_words.bases_by_ranks(kept)
-    return making_words.bases_by_ranks(making_words.ranks_after_contracting(outer, bases, inner))
+    def rank(members):
+        return words.rank(matroid.bases, words.together(inner, members)) - words.rank(matroid.bases, inner)
+    fresh = words.without(outer, *inner)
+    return [members for members in combinations(fresh, rank(fresh)) if rank(members) == len(members)]
 
 
 def is_even(matroid, inner, outer, family):

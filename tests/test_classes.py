@@ -40,7 +40,8 @@ GREAT = ([named(name) for name in NAMES]
             for number, rows, many, seed in product((2, 3), (3, 4, 5, 6), (6, 8, 10), (1, 2, 3))]
          + [summed(renamed(named("F7"), (3, 5, 8, 9, 20, 21, 199)), uniform(1, (0, 30))),
             summed(renamed(named("F7*"), (3, 5, 8, 9, 20, 21, 199)), uniform(2, (0, 30, 31))),
-            extended(named("K33"), 100, ()), extended(named("K33*"), 100, ((),)),
+            extended(named("K33"), 100, ()), extended(named("K33*"), 100, ((),)), extended(named("K33*"), 100, ()),
+            extended(named("F7"), 9, ()), extended(extended(named("F7*"), 9, ()), 8, ((),)),
             relaxed(named("F7"), (0, 1, 2)), relaxed(named("F7"), (0, 1, 2)).dual(), truncated(named("K5")),
             summed(named("U24"), renamed(named("U25"), (5, 6, 7, 8, 9)))])
 
@@ -55,6 +56,23 @@ class MatrixTest(unittest.TestCase):
     def test_all_small_matroids(self):
         for matroid in small.matroids_on_each(small.GROUNDS + [FOUR]) + small.matroids_on(FIVE)[::4] + [MIXED]:
             self.compared(matroid)
+
+    def test_six_elements_in_any_order(self):
+        edges = ((0, 1), (0, 2), (0, 3), (1, 2), (1, 3), (2, 3))
+        four = by_graph(edges, TEN[:6])
+        for names in list(permutations(TEN[:6]))[::5]:
+            one = renamed(four, names)
+            line = [circuit for circuit in one.circuits if len(circuit) == 3][0]
+            for matroid in (one, relaxed(one, line)):
+                found = ternary_of(matroid)
+                self.assertTrue(class_words.is_normal(3, matroid.ground, matroid.bases, found), (names, found))
+                self.assertEqual(by_matrix(3, found, matroid.ground), matroid)
+
+    def test_the_entry_that_is_taken_last_is_in_the_last_row(self):
+        rows = ((1, 0, 0, 1, 0, 1), (0, 1, 0, 0, 1, 1), (0, 0, 1, 1, 2, 0))
+        self.assertEqual(ternary_of(by_matrix(3, rows, TEN[:6])), rows)
+        other = ((1, 0, 0, 1, 0, 1), (0, 1, 0, 0, 1, 2), (0, 0, 1, 1, 1, 0))
+        self.assertEqual(ternary_of(by_matrix(3, other, TEN[:6])), rows)
 
     def test_one_normal_matrix_at_most_tells_a_matroid(self):
         for matroid in small.matroids_on(FOUR):
@@ -306,9 +324,14 @@ class LeastWayTest(unittest.TestCase):
 
     def test_eight_elements(self):
         f7 = renamed(named("F7"), (12, 3, 150, 7, 0, 40, 9))
-        for matroid in (extended(f7, 4, ()), extended(f7, 4, ((),)), extended(f7, 4, ((3,),)),
-                        extended(f7.dual(), 160, ((150,),))):
+        for matroid in (extended(f7, 4, ()), extended(f7, 4, ((3,),)), extended(f7.dual(), 160, ((150,),))):
             self.compared(matroid, ("ternary",))
+
+    def test_a_later_contracted_set_with_a_less_order(self):
+        # The affine space with eight points, of which any one may be contracted.
+        for points in ((14, 9, 12, 13, 15, 11, 8, 10), (13, 11, 12, 9, 10, 14, 15, 8)):
+            rows = tuple(tuple(point >> row & 1 for point in points) for row in (3, 2, 1, 0))
+            self.compared(by_matrix(2, rows, TEN[:8]), ("ternary",))
 
     def test_the_fewest_elements_go_ahead_of_the_first_name(self):
         one = summed(named("K5*"), EMPTY)
@@ -340,6 +363,15 @@ class LeastWayTest(unittest.TestCase):
 
 
 class IsWayTest(unittest.TestCase):
+
+    def test_minors_are_told_by_deleting_and_contracting(self):
+        for matroid in small.matroids_on(FIVE)[::9] + [named("F7")]:
+            for order in ((matroid.ground[3], matroid.ground[0], matroid.ground[4]), matroid.ground[:4]):
+                for gone in words.sets_within(words.without(matroid.ground, *order)):
+                    left = words.without(matroid.ground, *order, *gone)
+                    one = contracted(deleted(matroid, left), gone)
+                    bases = tuple(sorted(tuple(sorted(order.index(x) for x in base)) for base in one.bases))
+                    self.assertEqual(class_words.minor(matroid, order, gone), bases)
 
     def test_all_orders_and_sets_for_four_and_five_elements(self):
         for matroid in small.matroids_on(FOUR)[::4] + small.matroids_on(FIVE)[::40] + [

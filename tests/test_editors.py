@@ -503,6 +503,9 @@ class PairErrorsTest(unittest.TestCase):
     def test_pairs_of_eight(self):
         editor = PairEditor(uniform(3, EIGHT), uniform(4, EIGHT))
         self.assertEqual(self.refused(TooMany, editor, "grow", (8, ()), (9, ())).most, 8)
+        alike = PairEditor(uniform(3, EIGHT), uniform(3, TEN[2:]))
+        self.assertEqual(self.refused(TooMany, alike, "grow", (8, ()), (0, ())).most, 8)
+        self.assertEqual(self.refused(TooMany, alike, "grow", (8, ((),)), (0, ())).most, 8)
         self.refused(BadElement, editor, "grow", (8, ()), (7, ()))
         self.refused(BadFlats, editor, "grow", (8, ()), (8, ((0, 1, 2, 3),)))
         self.refused(BadChange, editor, "grow", (8, ()), [8, ()])

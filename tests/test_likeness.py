@@ -260,6 +260,14 @@ class IsApartTreeTest(unittest.TestCase):
         wanted = alike_words.is_tree(self.ONE, self.OTHER, thing)
         self.assertIs(is_apart_tree(self.ONE, self.OTHER, thing), wanted, thing)
 
+    def test_all_sets_of_paths_where_each_path_fits(self):
+        one, other = uniform(0, (0, 1, 2)), uniform(1, (3, 5, 9))
+        paths = sorted(path for many in (1, 2) for path in permutations(other.ground, many)) + [(9, 5, 3)]
+        for many in range(len(paths) + 1):
+            for chosen in combinations(paths, many):
+                thing = tuple((path, (0,)) for path in chosen)
+                self.assertIs(is_apart_tree(one, other, thing), alike_words.is_tree(one, other, thing), chosen)
+
     def test_trees_with_longer_paths_or_other_sets(self):
         one, other = Matroid((0, 1), ((),)), Matroid((0, 1), ((0,), (1,)))
         self.assertEqual(apart_tree(one, other), (((0,), (0,)), ((1,), (0,))))

@@ -6,6 +6,7 @@ from math import gcd
 
 from rankwright.errors import BadMatroid, BadNumber, BadSets, Loop, TooMany
 from rankwright.extensions import extended
+from rankwright.logs import contracted, deleted
 from rankwright.makers import by_graph, named, summed, uniform
 from rankwright.matroids import Matroid
 from rankwright.packings import (
@@ -191,11 +192,33 @@ class FamiliesTest(unittest.TestCase):
         self.assertLess(time.perf_counter() - start, 10)
 
     def test_just_the_chain_has_even_families(self):
-        for matroid in NO_LOOPS[:120:2]:
-            sets = [told for told in pack_words.steps_up(matroid.ground) if pack_words.is_falling(matroid, told)]
-            for told in sets:
-                families = [pack_words.even_ones(matroid, inner, outer) for inner, outer in zip(told, told[1:])]
-                self.assertEqual(all(families), told == chain_of(matroid), (matroid.bases, told))
+        for matroid in NO_LOOPS[:120:2] + [by_graph(((0, 1), (0, 1), (1, 2), (1, 2)), FOUR)]:
+            for told in pack_words.steps_up(matroid.ground):
+                if all(r > 0 for s, r in pack_words.numbers(matroid, told)):
+                    families = [pack_words.even_ones(matroid, inner, outer) for inner, outer in zip(told, told[1:])]
+                    if pack_words.is_falling(matroid, told):
+                        self.assertEqual(all(families), told == chain_of(matroid), (matroid.bases, told))
+                    if all(families):
+                        thing = tuple(family[0] for family in families)
+                        wanted = told == chain_of(matroid)
+                        self.assertIs(are_families(matroid, told, thing), wanted, (matroid.bases, told))
+
+    def test_the_bases_of_a_step_are_told_by_deleting_and_contracting(self):
+        for matroid in NO_LOOPS[::30] + [DENSE]:
+            sets = chain_of(matroid)
+            for inner, outer in zip(sets, sets[1:]):
+                one = contracted(deleted(matroid, words.without(matroid.ground, *outer)), inner)
+                self.assertEqual(tuple(pack_words.step_bases(matroid, inner, outer)), one.bases)
+
+    def test_quotients_that_stay(self):
+        own = by_graph(((0, 1), (0, 1), (1, 2), (1, 2)), FOUR)
+        families = (((0,), (7,)), ((8,), (150,)))
+        self.assertIs(are_families(own, ((), (0, 7), FOUR), families), False)
+        self.assertEqual(chain_of(own), ((), FOUR))
+        own = by_graph(((0, 1), (0, 1), (0, 1), (1, 2), (1, 2), (2, 3), (2, 3)), TEN[:7])
+        families = (((0,), (1,), (2,)), ((3,), (4,)), ((5,), (6,)))
+        self.assertIs(are_families(own, ((), (0, 1, 2), (0, 1, 2, 3, 4), TEN[:7]), families), False)
+        self.assertEqual(chain_of(own), ((), (0, 1, 2), TEN[:7]))
 
     def test_all_tuples_and_families_of_few_elements(self):
         for matroid in without_loops(small.matroids_on_each([(7,), (0, 199), (2, 3, 5)])):
@@ -233,6 +256,15 @@ class FamiliesTest(unittest.TestCase):
                      ((), (0, 1), (0, 2), (0, 1, 2)), ((), (0, 1), (0, 1, 2)), ((0,), (0, 1, 2)), ((), (0, 1))):
             for thing in ((), (family,), (family, family), (((0,),), ((1,), (2,))), (((0, 1),), ((),))):
                 self.assertIs(are_families(own, sets, thing), False, sets)
+
+    def test_sets_that_are_not_in_the_next_one(self):
+        # The numbers of elements and the ranks alone fall by 4, 3 and 2 for each rank.
+        own = by_graph(((0, 1),) * 4 + ((1, 2),) * 4 + ((2, 3),) * 2, TEN)
+        self.assertEqual(chain_of(own), ((), TEN[:8], TEN))
+        families = (((0,), (1,), (2,), (3,)), ((4,), (5,), (6,), (7,)), ((8,), (9,)))
+        self.assertIs(are_families(own, ((), (0, 1, 2, 3), (1, 2, 3, 4, 5, 6, 7), TEN), families), False)
+        for sets in (((), (0, 1), (2,), TEN), ((), (0, 1, 2, 3), (4, 5, 6, 7), TEN), ((), (0, 1, 2, 3), (0, 1), TEN)):
+            self.assertIs(are_families(own, sets, families), False)
 
     def test_any_value(self):
         own, sets = uniform(2, (0, 1, 2)), ((), (0, 1, 2))
